@@ -1,0 +1,96 @@
+"""The calls on one score, written one behind another in one list of whole numbers."""
+
+from scoretexts.checks import check_score
+from scoretexts.faults import Fault
+from scoretexts.reader import read_words
+from scoretexts.tellings import one_form, voice_counts, voice_sounds
+from scoretexts.words import check_bytes, words_of
+
+READ = 0
+FORM = 1
+COUNTS = 2
+SOUNDS = 3
+
+NO_SCORE = -1
+NO_VOICE = -2
+TOO_LONG = -8
+
+MOST_BYTES = 1500
+
+
+def answers(calls):
+    desk = Desk()
+    told = []
+    at = 0
+    while at < len(calls):
+        behind = call_end(calls, at)
+        answer = desk.answer(calls[at], calls[at + 1:behind])
+        told.append(len(answer))
+        told.extend(answer)
+        at = behind
+    return told
+
+
+def call_end(calls, at):
+    if calls[at] == READ:
+        return at + 2 + calls[at + 1]
+    if calls[at] == SOUNDS:
+        return at + 2
+    return at + 1
+
+
+# Keeps the score that the calls are about.
+class Desk:
+    def __init__(self):
+        self.score = None
+
+    # given is what stands behind the call's number.
+    def answer(self, call, given):
+        if call not in (READ, FORM, COUNTS, SOUNDS):
+            raise ValueError("no such call")
+        if call == READ:
+            return self.answer_read(given[1:])
+        if self.score is None:
+            return [NO_SCORE]
+        if call == FORM:
+            return self.answer_form()
+        if call == COUNTS:
+            return self.answer_counts()
+        return self.answer_sounds(given[0])
+
+    def answer_read(self, text):
+        if len(text) > MOST_BYTES:
+            return [TOO_LONG]
+        try:
+            self.score = score_of(text)
+        except Fault as fault:
+            return [fault.kind, 1, fault.place]
+        return [0]
+
+    def answer_form(self):
+        form = one_form(self.score)
+        return [len(form), len(form)] + form
+
+    def answer_counts(self):
+        return with_rows([voice_counts(voice) for voice in self.score.voices])
+
+    def answer_sounds(self, voice):
+        if voice >= len(self.score.voices):
+            return [NO_VOICE]
+        return with_rows(voice_sounds(self.score.voices[voice]))
+
+
+def score_of(text):
+    check_bytes(text)
+    score = read_words(words_of(text))
+    check_score(score)
+    return score
+
+
+# How many rows, then each with how many numbers it has ahead of it.
+def with_rows(rows):
+    answer = [len(rows)]
+    for row in rows:
+        answer.append(len(row))
+        answer.extend(row)
+    return answer
