@@ -1,6 +1,6 @@
-"""What's told of a score: its one form, its counts, its sounds."""
+"""What's told of a score: its one form, its counts, its sounds, its bars and where times lie in them."""
 
-from scoretexts.times import fraction
+from scoretexts.times import WHOLE_NOTE, fraction, lowest_terms
 
 
 # The bytes of the one form.
@@ -44,3 +44,31 @@ def lasting_lengths(events):
         lengths.append(lasting)
     lengths.reverse()
     return lengths
+
+
+# Bars are alike in all voices, so those of the first one are the score's.
+def score_bars(score):
+    return score.voices[0].bars
+
+
+# Of each bar a list of four numbers.
+def bar_times(score):
+    rows = []
+    time = 0
+    for bar in score_bars(score):
+        rows.append(fraction(time) + fraction(bar.length))
+        time += bar.length
+    return rows
+
+
+# The number of the bar in which the time lies, and how long behind its beginning that is (two numbers);
+# None, if it's behind all bars.
+def bar_of_time(score, upper, lower):
+    # A time needn't be a whole number of units, but times the lower number it is: so all is reckoned that often.
+    left = upper * WHOLE_NOTE
+    for number, bar in enumerate(score_bars(score)):
+        length = bar.length * lower
+        if left < length:
+            return (number, lowest_terms(left, WHOLE_NOTE * lower))
+        left -= length
+    return None

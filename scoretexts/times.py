@@ -26,8 +26,12 @@ def length_in_tuplets(length, tuplets):
 
 # The upper and the lower number, in whole notes and lowest terms.
 def fraction(units):
-    divisor = common_divisor(WHOLE_NOTE, units)
-    return [units // divisor, WHOLE_NOTE // divisor]
+    return lowest_terms(units, WHOLE_NOTE)
+
+
+def lowest_terms(upper, lower):
+    divisor = common_divisor(lower, upper)
+    return [upper // divisor, lower // divisor]
 
 
 def common_divisor(one, other):

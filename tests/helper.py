@@ -6,6 +6,7 @@ from scoretexts.score import answers
 
 FORM = [1]
 COUNTS = [2]
+BARS = [4]
 
 
 def read_bytes(text):
@@ -18,6 +19,18 @@ def read(text):
 
 def sounds(voice):
     return [3, voice]
+
+
+def same_bytes(text):
+    return [5, len(text)] + list(text)
+
+
+def same(text):
+    return same_bytes(text.encode("ascii"))
+
+
+def place(upper, lower):
+    return [6, upper, lower]
 
 
 def joined(calls):
@@ -59,6 +72,12 @@ def form_of(text):
 
 def sounds_of(text, voice=0):
     answer = told(read(text), sounds(voice))
+    assert answer[0] == [0], f"not read: {answer[0]}"
+    return rows(answer[1])
+
+
+def bars_of(text):
+    answer = told(read(text), BARS)
     assert answer[0] == [0], f"not read: {answer[0]}"
     return rows(answer[1])
 

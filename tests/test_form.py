@@ -2,7 +2,7 @@
 
 import itertools
 
-from tests.helper import COUNTS, FORM, TextCase, form_of, read, read_bytes, sounds, told
+from tests.helper import BARS, COUNTS, FORM, TextCase, form_of, read, read_bytes, same, sounds, told
 
 
 class Form(TextCase):
@@ -12,10 +12,11 @@ class Form(TextCase):
 
     def assert_read_back(self, text):
         """What's written in its one form is read as the same score."""
-        calls = [FORM, COUNTS, sounds(0), sounds(1), sounds(2), sounds(3)]
+        calls = [FORM, COUNTS, sounds(0), sounds(1), sounds(2), sounds(3), BARS, same(text)]
         first = told(read(text), *calls)
         again = told(read_bytes(first[1][2:]), *calls)
         self.assertEqual(first[0], [0])
+        self.assertEqual(first[-1], [1])
         self.assertEqual(again, first)
 
     def test_without_a_key(self):

@@ -4,7 +4,7 @@ import random
 import unittest
 from fractions import Fraction
 
-from tests.helper import COUNTS, FORM, read, read_bytes, rows, sounds, told
+from tests.helper import BARS, COUNTS, FORM, place, read, read_bytes, rows, same, same_bytes, sounds, told
 
 SIGNS = ("bb", "b", "", "#", "##")
 LETTERS = "cdefgab"
@@ -28,6 +28,7 @@ class Maker:
         if self.random.random() < 0.5:
             self.put_line("key", self.random.choice(("", "-")) + str(self.random.randint(1, 7)))
         shape = [self.random.random() < 0.3 for bar in range(self.random.randint(1, 4))]
+        self.lengths = [self.full / 2 if short else self.full for short in shape]
         names = self.random.sample(("a", "end", "upper", "z", "voice", "bass", "abcdefgh"), self.random.randint(1, 4))
         for name in names:
             self.make_voice(name, shape)
@@ -129,6 +130,15 @@ class Maker:
         return [[letter, accidental, octave, begin.numerator, begin.denominator, length.numerator, length.denominator]
                 for (octave, letter, accidental), begin, length in told_sounds]
 
+    def bars(self):
+        return [(sum(self.lengths[:number], Fraction(0)), length) for number, length in enumerate(self.lengths)]
+
+    def place(self, time):
+        for number, (begin, length) in enumerate(self.bars()):
+            if begin <= time < begin + length:
+                return [number, 2, *parts(time - begin)]
+        return [-4]
+
     def text(self):
         gaps = (" ", "\n", "  ", " \n", "\n\n")
         spread = "".join(word + self.random.choice(gaps) for word in self.words)
@@ -138,15 +148,23 @@ class Maker:
         return [ord(sign) for sign in "".join(line + "\n" for line in self.lines)]
 
 
+def parts(time):
+    return time.numerator, time.denominator
+
+
 class Generated(unittest.TestCase):
+    @classmethod
+    def setUpClass(cls):
+        """Makes scores and their texts; those are left out that have too many bytes."""
+        made_scores = [Maker(seed).make() for seed in range(1500)]
+        pairs = [(made, made.text()) for made in made_scores]
+        cls.made_scores = [(made, text) for made, text in pairs if len(text) < 1500]
+
+    def test_enough_are_made(self):
+        self.assertGreater(len(self.made_scores), 800)
+
     def test_what_is_told_of_made_scores(self):
-        tried = 0
-        for seed in range(1500):
-            made = Maker(seed).make()
-            text = made.text()
-            if len(text) >= 1500:
-                continue
-            tried += 1
+        for made, text in self.made_scores:
             voices = range(len(made.counts))
             whole = told(read(text), FORM, COUNTS, *[sounds(voice) for voice in voices], sounds(len(voices)))
             self.assertEqual(whole[0], [0], text)
@@ -157,4 +175,28 @@ class Generated(unittest.TestCase):
             self.assertEqual(whole[-1], [-2])
             again = told(read_bytes(whole[1][2:]), FORM, COUNTS, *[sounds(voice) for voice in voices])
             self.assertEqual(again, whole[:-1], text)
-        self.assertGreater(tried, 800)
+
+    def test_bars_of_made_scores(self):
+        for made, text in self.made_scores:
+            expected = [[*parts(begin), *parts(length)] for begin, length in made.bars()]
+            self.assertEqual(rows(told(read(text), BARS)[1]), expected, text)
+
+    def test_places_in_made_scores(self):
+        source = random.Random(6)
+        for made, text in self.made_scores:
+            times = [(source.randint(0, 12), source.randint(1, 9)) for number in range(20)]
+            times += [parts(begin) for begin, length in made.bars()]
+            times.append(parts(sum(made.lengths)))
+            whole = told(read(text), *[place(upper, lower) for upper, lower in times])
+            self.assertEqual(whole[1:], [made.place(Fraction(*time)) for time in times], text)
+            self.assertEqual(whole[-1], [-4])
+
+    def test_made_scores_are_the_same_as_their_forms_alone(self):
+        before = None
+        for made, text in self.made_scores:
+            whole = told(read(text), same_bytes(made.form()), same(made.text()), same(text), FORM)
+            self.assertEqual(whole[:4], [[0], [1], [1], [1]], text)
+            if before is not None:
+                alike = made.form() == before.form()
+                self.assertEqual(told(read(text), same_bytes(before.form())), [[0], [int(alike)]], text)
+            before = made

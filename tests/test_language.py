@@ -142,7 +142,7 @@ class Language(unittest.TestCase):
                 inner = [node for node in ast.walk(function)]
                 bound = {node.arg for node in inner if isinstance(node, ast.arg)}
                 bound |= {node.id for node in inner if isinstance(node, ast.Name) and isinstance(node.ctx, ast.Store)}
-                bound |= {node.name for node in inner if isinstance(node, ast.ExceptHandler)}
+                bound |= {node.name for node in inner if isinstance(node, ast.ExceptHandler) and node.name}
                 self.assertFalse(bound & (top | BUILTINS | set(dir(builtins))), f"{name}: {function.name}")
                 for word in bound:
                     self.assertRegex(word, r"^[a-z][a-z0-9_]*$")
